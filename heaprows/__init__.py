@@ -1,0 +1,1 @@
+"""Heaps kept in a row, with one to four arms; the modules hold the functions and classes."""

@@ -1,0 +1,46 @@
+"""Checks of arguments that several modules share."""
+
+from heaprows.errors import BadArms, BadMany, BadPlace, BadRow
+
+MOST_ARMS = 4
+MOST_PLACES = 12
+GREATEST_KEY = 1000000000
+
+
+def is_integer_from(thing, least, greatest):
+    """Return whether a value of any kind is an integer within two limits."""
+    # In Python, booleans are integers; in this package they are not.
+    return isinstance(thing, int) and not isinstance(thing, bool) and least <= thing <= greatest
+
+
+def is_key(thing):
+    """Return whether a value of any kind is a key."""
+    return is_integer_from(thing, -GREATEST_KEY, GREATEST_KEY)
+
+
+def check_arms(arms):
+    """Raise BadArms if the arms are not an integer from 1 to 4."""
+    if not is_integer_from(arms, 1, MOST_ARMS):
+        raise BadArms("arms is not an integer from 1 to 4")
+
+
+def check_many(many):
+    """Raise BadMany if a value is not a number of places."""
+    if not is_integer_from(many, 0, MOST_PLACES):
+        raise BadMany("the number of places is not an integer from 0 to 12")
+
+
+def check_place(place, many):
+    """Raise BadPlace if a value is not one of so many places."""
+    if not is_integer_from(place, 0, many - 1):
+        raise BadPlace("not a place")
+
+
+def row_of(row):
+    """Return a row argument as a tuple; raise BadRow if it is not a row."""
+    if not isinstance(row, (list, tuple)) or len(row) > MOST_PLACES:
+        raise BadRow(None)
+    for index, key in enumerate(row):
+        if not is_key(key):
+            raise BadRow(index)
+    return tuple(row)

@@ -1,0 +1,116 @@
+"""What several tests need: wrong values, oracles, and the examples of the document."""
+
+import doctest
+import itertools
+
+ALL_ARMS = (1, 2, 3, 4)
+GREATEST = 10 ** 9
+
+
+class Odd:
+    """Equal to everything, and of no kind that the document knows."""
+
+    def __eq__(self, other):
+        return True
+
+    __hash__ = None
+
+
+def not_integers():
+    """Values that are no integers for the package; floats are left out, as the document does."""
+    return [None, True, False, "1", "", b"1", [], [1], (), (1,), {}, {1: 1}, set(), {1}, range(2), slice(0, 1),
+            object(), Odd(), len, int, iter([1])]
+
+
+def bad_arms():
+    return not_integers() + [0, 5, -1, 10 ** 30, -10 ** 30]
+
+
+def bad_keys():
+    return not_integers() + [-GREATEST - 1, GREATEST + 1, 10 ** 30, -10 ** 30]
+
+
+def bad_rows():
+    """Pairs of a value that is not a row and of the index that the error must have."""
+    wrong = [(thing, None) for thing in not_integers() + [0, 5] if not isinstance(thing, (list, tuple))]
+    wrong += [([0] * 13, None), ((0,) * 13, None), ([None] * 13, None), ([[]] * 20, None), ("12", None)]
+    for key in bad_keys():
+        wrong += [([key], 0), ((key,), 0), ([5, key], 1), ((1, 2, key, 4), 2), ([0] * 11 + [key], 11),
+                  ([1, key, key], 1), ([key] * 12, 0)]
+    return wrong
+
+
+def parent(place, arms):
+    return (place - 1) // arms
+
+
+def up(place, arms):
+    """The places from a place up to the root, found by walking."""
+    walk = [place]
+    while walk[-1]:
+        walk.append(parent(walk[-1], arms))
+    return walk
+
+
+def heap_like(row, arms):
+    return all(row[parent(place, arms)] <= row[place] for place in range(1, len(row)))
+
+
+def first_fault(row, arms):
+    return next(place for place in range(1, len(row)) if row[place] < row[parent(place, arms)])
+
+
+def sample_rows(most=12):
+    """Rows of 0 to `most` keys: some systematic ones, and pseudo-random ones that are always the same."""
+    rows = [row for many in range(5) for row in itertools.product(range(3), repeat=many)]
+    rows += list(itertools.permutations(range(5)))
+    state = 12345
+    for many in range(most + 1):
+        rows += [tuple(range(many)), tuple(range(many))[::-1], (7,) * many]
+        for span in (2, 4, 9, 10 ** 6):
+            for _ in range(6):
+                row = []
+                for _ in range(many):
+                    state = (state * 1103515245 + 12345) % 2 ** 31
+                    row.append((state >> 8) % span - span // 2)
+                rows.append(tuple(row))
+    return [row for row in rows if len(row) <= most]
+
+
+def check_example(case, text):
+    """Run an example of the document as it is written there."""
+    example = doctest.DocTestParser().get_doctest(text, {}, case.id(), None, 0)
+    case.assertTrue(example.examples)
+    told = []
+    results = doctest.DocTestRunner(verbose=False).run(example, out=told.append)
+    case.assertEqual(results.failed, 0, "".join(told))
+
+
+def check_raises(case, error, work, *args, **more):
+    """Check that a call raises exactly this error; return the error."""
+    try:
+        work(*args, **more)
+    except Exception as caught:
+        case.assertIs(type(caught), error, (work, args, more))
+        return caught
+    case.fail(f"{work} raised nothing for {args} {more}")
+
+
+def check_row_errors(case, work, *rest, **more):
+    """Check that a function refuses, as its first argument, all that is not a row, with the right index."""
+    from heaprows.errors import BadRow
+    for thing, index in bad_rows():
+        error = check_raises(case, BadRow, work, thing, *rest, **more)
+        case.assertIs(type(error.index), type(index), thing)
+        case.assertEqual(error.index, index, thing)
+
+
+def check_arms_errors(case, work, *args, worse=()):
+    """Check that a function refuses bad arms before all else: with good arguments, and with worse ones."""
+    from heaprows.errors import BadArms
+    for arms in bad_arms():
+        check_raises(case, BadArms, work, *args, arms=arms)
+        for wrong in worse:
+            check_raises(case, BadArms, work, *wrong, arms=arms)
+    for arms in ALL_ARMS:
+        work(*args, arms=arms)

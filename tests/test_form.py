@@ -1,0 +1,191 @@
+"""Checks that the package keeps to the form that is asked of it, and that the interface is where it must be."""
+
+import ast
+import builtins
+import importlib
+import inspect
+import pathlib
+import re
+import unittest
+
+FOLDER = pathlib.Path(__file__).resolve().parent.parent / "heaprows"
+
+BUILTINS = set("len range enumerate zip min max sum abs sorted reversed int str bool bytes list tuple dict set frozenset "
+               "isinstance ord repr any all divmod Exception ValueError TypeError KeyError IndexError LookupError "
+               "ZeroDivisionError ArithmeticError OverflowError RuntimeError NotImplementedError AttributeError "
+               "StopIteration NotImplemented iter next map property staticmethod classmethod super object".split())
+LIBRARY = {"heapq": {"heappush", "heappop", "heapify", "heapreplace", "heappushpop"},
+           "math": {"gcd", "lcm", "isqrt", "comb", "perm", "factorial"}}
+METHODS = set("append clear copy count endswith extend find get index insert isalnum isalpha isdigit islower isspace "
+              "isupper items join keys ljust lower lstrip partition pop remove replace reverse rfind rjust rpartition "
+              "rsplit rstrip setdefault split splitlines startswith strip update upper values zfill bit_length add "
+              "discard".split())
+DOUBLE = set("__init__ __eq__ __repr__ __str__ __len__ __enter__ __exit__ __call__ __iter__ __contains__ "
+             "__getitem__".split())
+BARRED = set("register mro elements open input law version_info with_traceback add_note compile copyright credits "
+             "delattr dir eval exec exit gc getattr globals hasattr help id importlib license locals os quit setattr "
+             "type vars sys".split())
+WORDS = re.compile(r"\b(type|typing|enum|Enum|Flag|Generic|Protocol|ABC|namedtuple|abstractmethod)\b")
+NODES = (ast.Global, ast.AsyncFunctionDef, ast.AsyncFor, ast.AsyncWith, ast.Await, ast.Div, ast.Import,
+         ast.AnnAssign, ast.GeneratorExp, ast.MatMult, ast.TryStar)
+FUNCTIONS = (ast.FunctionDef, ast.Lambda)
+
+INTERFACE = {
+    "trees": {
+        "Tree": "(many, *, arms=2)", "Tree.of": "(row, *, arms=2)", "Tree.parent": "(self, place)",
+        "Tree.way_to": "(self, place)", "Tree.depth": "(self, place)", "Tree.size": "(self, place)",
+        "Tree.height": "(self, place)", "Tree.subtree": "(self, place)",
+    },
+    "rows": {
+        "is_heap": "(row, *, arms=2)", "faults": "(row, *, arms=2)", "falls": "(row, *, arms=2)", "ranks": "(row)",
+    },
+}
+
+
+def files():
+    return sorted(path for path in FOLDER.rglob("*") if path.is_file() and "__pycache__" not in path.parts)
+
+
+def trees():
+    return {path.stem: ast.parse(path.read_text("utf-8")) for path in files()}
+
+
+def bound_at_top(tree):
+    names = []
+    for node in tree.body:
+        if isinstance(node, (ast.FunctionDef, ast.ClassDef)):
+            names.append(node.name)
+        if isinstance(node, ast.ImportFrom):
+            names += [name.name for name in node.names]
+        if isinstance(node, ast.Assign):
+            names += [target.id for target in node.targets]
+    return names
+
+
+def bound_inside(tree):
+    """Names that functions bind: parameters, local variables, nested functions."""
+    names = set()
+    for function in ast.walk(tree):
+        if isinstance(function, FUNCTIONS):
+            names |= {node.arg for node in ast.walk(function) if isinstance(node, ast.arg)}
+            names |= {node.id for node in ast.walk(function)
+                      if isinstance(node, ast.Name) and isinstance(node.ctx, ast.Store)}
+            names |= {node.name for node in ast.walk(function) if isinstance(node, ast.FunctionDef) and node != function}
+    return names
+
+
+class FormTest(unittest.TestCase):
+    def test_files(self):
+        self.assertTrue(FOLDER.joinpath("__init__.py").is_file())
+        for path in files():
+            self.assertEqual(path.parent, FOLDER)
+            self.assertRegex(path.name, r"^(__init__|[a-z]+)\.py$")
+            text = path.read_text("utf-8")
+            self.assertRegex(text, r"\A[\n -~]*\Z", path)
+            lines = text.split("\n")
+            self.assertLessEqual(len(lines), 400, path)
+            self.assertLessEqual(max(map(len, lines)), 120, path)
+
+    def test_functions_are_small(self):
+        for stem, tree in trees().items():
+            for node in ast.walk(tree):
+                if isinstance(node, ast.FunctionDef):
+                    self.assertLessEqual(node.end_lineno - node.lineno + 1, 40, (stem, node.name))
+
+    def test_imports(self):
+        needs = {}
+        for stem, tree in trees().items():
+            needs[stem] = set()
+            begun = False
+            for node in tree.body:
+                if not isinstance(node, ast.ImportFrom):
+                    begun = begun or not isinstance(node, ast.Expr)
+                    continue
+                self.assertFalse(begun, (stem, "an import that is not at the top"))
+                names = {name.name for name in node.names}
+                self.assertTrue(all(name.asname is None for name in node.names), stem)
+                if node.module in LIBRARY:
+                    self.assertLessEqual(names, LIBRARY[node.module])
+                    continue
+                package, other = node.module.split(".")
+                self.assertEqual((package, node.level), ("heaprows", 0))
+                defined = [part.name for part in trees()[other].body if hasattr(part, "name")]
+                defined += [target.id for part in trees()[other].body if isinstance(part, ast.Assign)
+                            for target in part.targets]
+                self.assertLessEqual(names, set(defined), stem)
+                needs[stem].add(other)
+            used = {node.id for node in ast.walk(tree) if isinstance(node, ast.Name)}
+            imported = {name.name for node in tree.body if isinstance(node, ast.ImportFrom) for name in node.names}
+            self.assertLessEqual(imported, used, (stem, "an import that is not used"))
+        while needs:
+            free = [stem for stem in needs if not needs[stem]]
+            self.assertTrue(free, ("files import from each other", needs))
+            needs = {stem: needs[stem] - set(free) for stem in needs if stem not in free}
+
+    def test_module_level(self):
+        for stem, tree in trees().items():
+            for node in tree.body:
+                if isinstance(node, ast.Expr):
+                    self.assertIsInstance(node.value, ast.Constant, stem)
+                else:
+                    self.assertIsInstance(node, (ast.ImportFrom, ast.FunctionDef, ast.ClassDef, ast.Assign), stem)
+            names = bound_at_top(tree)
+            self.assertEqual(len(names), len(set(names)), stem)
+            fixed = {node.name for node in tree.body if isinstance(node, ast.ClassDef)}
+            fixed |= {name.name for node in tree.body if isinstance(node, ast.ImportFrom) for name in node.names}
+            self.assertEqual(bound_inside(tree) & fixed, set(), stem)
+
+    def test_statements_and_expressions(self):
+        for stem, tree in trees().items():
+            for node in ast.walk(tree):
+                self.assertNotIsInstance(node, NODES, (stem, getattr(node, "lineno", None)))
+                if isinstance(node, ast.Constant):
+                    self.assertNotIsInstance(node.value, (float, complex), stem)
+                    self.assertNotIn("%", str(node.value), stem)
+                if isinstance(node, ast.BinOp) and isinstance(node.op, ast.Pow):
+                    self.assertIsInstance(node.right, ast.Constant, stem)
+                if isinstance(node, ast.Try):
+                    self.assertTrue(all(handler.type for handler in node.handlers), stem)
+                for decorator in getattr(node, "decorator_list", []):
+                    self.assertIn(ast.unparse(decorator), ("property", "staticmethod", "classmethod"), stem)
+
+    def test_names(self):
+        for stem, tree in trees().items():
+            mine = set(bound_at_top(tree)) | bound_inside(tree)
+            own = {node.name for part in trees().values() for node in ast.walk(part)
+                   if isinstance(node, ast.FunctionDef)}
+            self.assertEqual({name for name in mine if hasattr(builtins, name)}, set(), stem)
+            self.assertEqual(mine & BARRED, set(), stem)
+            for node in ast.walk(tree):
+                if isinstance(node, ast.Name) and hasattr(builtins, node.id):
+                    self.assertIn(node.id, BUILTINS, (stem, node.lineno))
+                if isinstance(node, ast.Call) and isinstance(node.func, ast.Attribute):
+                    self.assertIn(node.func.attr, METHODS | own, (stem, node.lineno))
+                if isinstance(node, ast.FunctionDef) and node.name.startswith("__"):
+                    self.assertIn(node.name, DOUBLE, stem)
+                if isinstance(node, ast.Attribute) and node.attr.startswith("__"):
+                    self.assertEqual(node.attr, "__init__", stem)
+                if isinstance(node, ast.Constant) and isinstance(node.value, str) and " " not in node.value:
+                    self.assertNotRegex(node.value, WORDS, stem)
+                if isinstance(node, (ast.Name, ast.Attribute)):
+                    self.assertNotRegex(ast.unparse(node), WORDS, stem)
+
+    def test_no_object_has_keys(self):
+        for stem, tree in trees().items():
+            for node in ast.walk(tree):
+                if isinstance(node, ast.Attribute) and isinstance(node.ctx, ast.Store):
+                    self.assertNotIn(node.attr, METHODS - {"count", "index"}, stem)
+
+    def test_interface(self):
+        for stem, names in INTERFACE.items():
+            module = importlib.import_module(f"heaprows.{stem}")
+            for name, signature in names.items():
+                owner, _, last = name.rpartition(".")
+                thing = getattr(getattr(module, owner) if owner else module, last)
+                self.assertEqual(str(inspect.signature(thing)), signature, name)
+                self.assertEqual(thing.__module__, f"heaprows.{stem}", name)
+                self.assertEqual(thing.__qualname__, name)
+
+
+if __name__ == "__main__":
+    unittest.main()
