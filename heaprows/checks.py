@@ -1,6 +1,6 @@
 """Checks of arguments that several modules share."""
 
-from heaprows.errors import BadArms, BadMany, BadPlace, BadRow
+from heaprows.errors import BadArms, BadIndex, BadKey, BadMany, BadPlace, BadRow, TooLarge
 
 MOST_ARMS = 4
 MOST_PLACES = 12
@@ -34,6 +34,24 @@ def check_place(place, many):
     """Raise BadPlace if a value is not one of so many places."""
     if not is_integer_from(place, 0, many - 1):
         raise BadPlace("not a place")
+
+
+def check_key(key):
+    """Raise BadKey if a value is not a key."""
+    if not is_key(key):
+        raise BadKey("not an integer from -10**9 to 10**9")
+
+
+def check_index(index, many):
+    """Raise BadIndex if a value is not an index of a list with so many items."""
+    if not is_integer_from(index, 0, many - 1):
+        raise BadIndex("not an index")
+
+
+def check_few(row, most):
+    """Raise TooLarge if a row has more than so many keys."""
+    if len(row) > most:
+        raise TooLarge(f"more than {most} keys")
 
 
 def row_of(row):

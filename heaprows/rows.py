@@ -1,6 +1,7 @@
 """Rows of keys: their faults, fallen pairs and ranks, and which of them are heaps."""
 
 from heaprows.checks import row_of
+from heaprows.errors import NotHeap
 from heaprows.trees import Tree
 
 
@@ -27,3 +28,11 @@ def ranks(row):
     pairs = [(key, place) for place, key in enumerate(keys)]
     ascending = sorted(pairs)
     return tuple([ascending.index(pair) for pair in pairs])
+
+
+def heap_of(row, arms):
+    """Return a heap argument as a tuple; raise NotHeap if it is a row with a fault."""
+    wrong = faults(row, arms=arms)
+    if wrong:
+        raise NotHeap(wrong[0])
+    return tuple(row)

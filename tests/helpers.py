@@ -114,3 +114,73 @@ def check_arms_errors(case, work, *args, worse=()):
             check_raises(case, BadArms, work, *wrong, arms=arms)
     for arms in ALL_ARMS:
         work(*args, arms=arms)
+
+
+def check_heap_errors(case, work, *rest):
+    """Check that a function refuses, as its first argument, what is no row and then what is no heap."""
+    from heaprows.errors import NotHeap
+    check_row_errors(case, work, *rest)
+    for row in sample_rows():
+        for arms in ALL_ARMS:
+            if not heap_like(row, arms):
+                error = check_raises(case, NotHeap, work, list(row), *rest, arms=arms)
+                case.assertEqual(error.place, first_fault(row, arms))
+
+
+def step_up(row, place, arms):
+    """The row after a key went up, its way, and the looks, worked out step by step."""
+    row = list(row)
+    if place == 0:
+        return tuple(row), (place,), 0
+    above = parent(place, arms)
+    if not row[place] < row[above]:
+        return tuple(row), (place,), 1
+    row[place], row[above] = row[above], row[place]
+    after, way, looks = step_up(row, above, arms)
+    return after, (place,) + way, looks + 1
+
+
+def children(place, many, arms):
+    return [other for other in range(1, many) if parent(other, arms) == place]
+
+
+def first_least(row, places):
+    least = min(row[place] for place in places)
+    return [place for place in places if row[place] == least][0]
+
+
+def step_down(row, place, arms):
+    """The row after a key went down, its way, and the looks, worked out step by step."""
+    row = list(row)
+    below = children(place, len(row), arms)
+    if not below:
+        return tuple(row), (place,), 0
+    child = first_least(row, below)
+    if not row[place] > row[child]:
+        return tuple(row), (place,), len(below)
+    row[place], row[child] = row[child], row[place]
+    after, way, looks = step_down(row, child, arms)
+    return after, (place,) + way, looks + len(below)
+
+
+def sample_heaps(arms, most=12):
+    """Heaps of 0 to `most` keys: the sample rows that are heaps, and the others with their keys put in one by one."""
+    found = {}
+    for row in sample_rows(most):
+        heap = ()
+        for key in row:
+            heap = step_up(heap + (key,), len(heap), arms)[0]
+        found[heap] = True
+        if heap_like(row, arms):
+            found[row] = True
+    return sorted(found)
+
+
+def all_orders_that_are_heaps(keys, arms):
+    return sorted({row for row in itertools.permutations(keys) if heap_like(row, arms)})
+
+
+def check_values(case, found, expected):
+    """Check values and their kinds, so that True is not taken for 1, nor a list for a tuple."""
+    case.assertEqual(found, expected)
+    case.assertEqual(repr(found), repr(expected))

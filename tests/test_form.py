@@ -39,6 +39,18 @@ INTERFACE = {
     "rows": {
         "is_heap": "(row, *, arms=2)", "faults": "(row, *, arms=2)", "falls": "(row, *, arms=2)", "ranks": "(row)",
     },
+    "sifts": {
+        "sift_up": "(row, place, *, arms=2)", "sift_down": "(row, place, *, arms=2)", "Sift": "(row, way, looks)",
+    },
+    "heaps": {
+        "push": "(row, key, *, arms=2)", "take": "(row, *, arms=2)", "take_by_hole": "(row, *, arms=2)",
+        "put_for": "(row, key, *, arms=2)", "build": "(row, *, arms=2)", "Built": "(row, stops, changes, looks)",
+    },
+    "counting": {
+        "how_many": "(many, *, arms=2)", "all_heaps": "(keys, *, arms=2)", "heap_at": "(keys, index, *, arms=2)",
+        "index_of": "(row, *, arms=2)",
+    },
+    "dealing": {"how_many_of": "(keys, *, arms=2)"},
 }
 
 

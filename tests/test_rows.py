@@ -27,6 +27,7 @@ class RowsTest(unittest.TestCase):
                 self.assertEqual(faults(list(row), arms=arms), wrong)
                 self.assertIs(is_heap(list(row), arms=arms), heap_like(row, arms))
             self.assertEqual(faults(row), faults(row, arms=2))
+            self.assertIs(is_heap(row), heap_like(row, 2))
 
     def test_falls(self):
         for row in sample_rows():
