@@ -1,6 +1,6 @@
 """Checks of arguments that several modules share."""
 
-from heaprows.errors import BadArms, BadIndex, BadKey, BadMany, BadPlace, BadRow, TooLarge
+from heaprows.errors import BadArms, BadIndex, BadKey, BadMany, BadPlace, BadRow, SameKeys, TooLarge
 
 MOST_ARMS = 4
 MOST_PLACES = 12
@@ -62,3 +62,22 @@ def row_of(row):
         if not is_key(key):
             raise BadRow(index)
     return tuple(row)
+
+
+def check_different(keys):
+    """Raise SameKeys if some keys of a row are equal."""
+    for place, key in enumerate(keys):
+        if key in keys[:place]:
+            raise SameKeys(place)
+
+
+def is_full(thing, many):
+    """Return whether the items of a list or tuple are the integers from 0 to many - 1, each once."""
+    return all([is_integer_from(item, 0, many - 1) for item in thing]) and sorted(thing) == list(range(many))
+
+
+def is_set_of_places(thing, many):
+    """Return whether a value of any kind is an ascending tuple of some of so many places."""
+    if not isinstance(thing, tuple) or not all([is_integer_from(item, 0, many - 1) for item in thing]):
+        return False
+    return list(thing) == sorted(set(thing))

@@ -1,6 +1,6 @@
 """Rows of keys: their faults, fallen pairs and ranks, and which of them are heaps."""
 
-from heaprows.checks import row_of
+from heaprows.checks import check_different, is_full, row_of
 from heaprows.errors import NotHeap
 from heaprows.trees import Tree
 
@@ -36,3 +36,15 @@ def heap_of(row, arms):
     if wrong:
         raise NotHeap(wrong[0])
     return tuple(row)
+
+
+def different_heap_of(row, arms):
+    """Return a heap argument as a tuple; raise SameKeys if some of its keys are equal."""
+    heap = heap_of(row, arms)
+    check_different(heap)
+    return heap
+
+
+def is_full_heap(row, many, arms):
+    """Return whether a list or tuple of integers is a heap of those from 0 to many - 1, each once."""
+    return is_full(row, many) and is_heap(row, arms=arms)

@@ -55,3 +55,12 @@ def sift_down(row, place, *, arms=2):
 def least_child(keys, children):
     """Return the first one of some children with the least key among them."""
     return min(children, key=lambda place: keys[place])
+
+
+def row_before(row, way):
+    """Return the row, a tuple, from which a sift with this way leads to a row."""
+    keys = list(row)
+    keys[way[0]] = row[way[-1]]
+    for place, after in zip(way, way[1:]):
+        keys[after] = row[place]
+    return tuple(keys)

@@ -1,7 +1,9 @@
 """What several tests need: wrong values, oracles, and the examples of the document."""
 
 import doctest
+import functools
 import itertools
+import time
 
 ALL_ARMS = (1, 2, 3, 4)
 GREATEST = 10 ** 9
@@ -184,3 +186,80 @@ def check_values(case, found, expected):
     """Check values and their kinds, so that True is not taken for 1, nor a list for a tuple."""
     case.assertEqual(found, expected)
     case.assertEqual(repr(found), repr(expected))
+
+
+@functools.lru_cache(maxsize=None)
+def full_heaps(many, arms):
+    """All heaps of the integers from 0 to many - 1: those of one place less, with room made for each last key."""
+    if many == 0:
+        return ((),)
+    last = many - 1
+    found = []
+    for heap in full_heaps(last, arms):
+        for key in range(many):
+            row = tuple(other + (other >= key) for other in heap) + (key,)
+            if heap_like(row, arms):
+                found.append(row)
+    return tuple(sorted(found))
+
+
+def subtree(place, many, arms):
+    return [other for other in range(many) if place in up(other, arms)]
+
+
+def first_same(row):
+    return next(place for place in range(len(row)) if row[place] in row[:place])
+
+
+def check_same_keys(case, work, *rest):
+    """Check that a function refuses heaps with equal keys as its first argument, with the right place."""
+    from heaprows.errors import SameKeys
+    for arms in ALL_ARMS:
+        for heap in sample_heaps(arms)[::3]:
+            if len(set(heap)) < len(heap):
+                error = check_raises(case, SameKeys, work, list(heap), *rest, arms=arms)
+                check_values(case, error.place, first_same(heap))
+
+
+def check_error_order(case, work, good, wrongs):
+    """Check the errors of a function, given as (error, name of an argument, wrong values) in the documented order.
+
+    Each wrong value alone raises its error; of two wrong arguments, the one with the earlier error is told.
+    """
+    for at, (error, name, values) in enumerate(wrongs):
+        work(**good)
+        for value in values:
+            check_raises(case, error, work, **{**good, name: value})
+        for _, other, more in wrongs[at + 1:]:
+            if other != name:
+                for value in values[:7] + values[-3:]:
+                    for worse in more[:7] + more[-3:]:
+                        check_raises(case, error, work, **{**good, name: value, other: worse})
+
+
+def bad_row_values():
+    return [thing for thing, _ in bad_rows()]
+
+
+def bad_integers(least, greatest):
+    """Values that are no integers from least to greatest."""
+    return not_integers() + [least - 1, greatest + 1, 10 ** 30, -10 ** 30]
+
+
+def check_equality(case, make, same, others, *more):
+    """Check that an object equals one made with the same, and neither ones made with others nor anything else."""
+    thing = make(*same)
+    case.assertIs(thing == make(*same), True)
+    case.assertIs(thing != make(*same), False)
+    for other in [make(*args) for args in others] + not_integers() + [1, same, same[0]] + list(more):
+        case.assertIs(thing == other, False)
+        case.assertIs(thing != other, True)
+    case.assertIn("__eq__", vars(make))
+
+
+def check_time(case, work, *args, **more):
+    """Check that an answer comes within a few seconds; return it."""
+    begun = time.perf_counter()
+    found = work(*args, **more)
+    case.assertLess(time.perf_counter() - begun, 3, (work, args, more))
+    return found
