@@ -78,6 +78,24 @@ INTERFACE = {
         "Before.shows": "(self, row, least, place, *, arms=2)", "Over": "(place, key)",
         "Over.shows": "(self, row, least, place, *, arms=2)",
     },
+    "ties": {
+        "names_behind": "(row, *, arms=2)", "compare_ways": "(keys, *, arms=2)", "are_together": "(keys, *, arms=2)",
+        "Together": "(heaps)", "Together.shows": "(self, keys, *, arms=2)", "Apart": "(row)",
+        "Apart.shows": "(self, keys, *, arms=2)",
+    },
+    "mending": {
+        "mend": "(row, *, arms=2)", "fewest_changed": "(row, *, arms=2)", "kept_sets": "(row, *, arms=2)",
+        "Mended": "(row, kept, chains)", "Mended.shows": "(self, row, *, arms=2)",
+    },
+    "standing": {
+        "stand": "(many, place, rank, *, arms=2)", "can_stand": "(many, place, rank, *, arms=2)",
+        "ranks_of": "(many, place, *, arms=2)", "closed_sets": "(many, count, *, arms=2)",
+        "many_closed": "(many, count, *, arms=2)", "closed_at": "(many, count, index, *, arms=2)",
+        "is_closed": "(many, thing, *, arms=2)", "closed_index": "(many, closed, *, arms=2)",
+        "heap_with": "(many, closed, *, arms=2)", "Stands": "(row)",
+        "Stands.shows": "(self, many, place, rank, *, arms=2)", "Barred": "(word, places)",
+        "Barred.shows": "(self, many, place, rank, *, arms=2)",
+    },
 }
 
 
