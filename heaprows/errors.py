@@ -1,4 +1,4 @@
-"""All errors of the package."""
+"""All errors of the package. Their messages hold no numbers, as Python refuses to write out very great ones."""
 
 
 class HeapError(ValueError):
@@ -25,7 +25,7 @@ class BadRow(HeapError):
     """Not a row; `index` is that of the first item that is not a key, or None."""
 
     def __init__(self, index=None):
-        super().__init__(f"not a row of at most twelve keys (index {index})")
+        super().__init__("not a row of at most twelve keys")
         self.index = index
 
 
@@ -33,7 +33,7 @@ class NotHeap(HeapError):
     """The row is not a heap; `place` is the first fault."""
 
     def __init__(self, place=None):
-        super().__init__(f"not a heap: the key at place {place} is less than the key of its parent")
+        super().__init__("not a heap: a key is less than the key of its parent")
         self.place = place
 
 
@@ -41,7 +41,7 @@ class SameKeys(HeapError):
     """Some keys are equal; `place` is the first one whose key is also at an earlier place."""
 
     def __init__(self, place=None):
-        super().__init__(f"the key at place {place} is also at an earlier place")
+        super().__init__("a key is also at an earlier place")
         self.place = place
 
 
@@ -53,7 +53,7 @@ class BadBounds(HeapError):
     """Not bounds; `place` is the index of the first item that is not a pair of ranks, or None."""
 
     def __init__(self, place=None):
-        super().__init__(f"not bounds (place {place})")
+        super().__init__("not bounds: a least and a greatest rank for each place")
         self.place = place
 
 
@@ -61,7 +61,7 @@ class BadStops(HeapError):
     """Not stops; `index` is that of the first item that is not as it must be, or None."""
 
     def __init__(self, index=None):
-        super().__init__(f"not stops (index {index})")
+        super().__init__("not the stops of a row")
         self.index = index
 
 
@@ -109,7 +109,7 @@ class BadDeed(HeapError):
     """Not a history; `index` is that of the first deed that is not possible, or None."""
 
     def __init__(self, index=None):
-        super().__init__(f"not a history of deeds that are possible (index {index})")
+        super().__init__("not a history of deeds that are possible")
         self.index = index
 
 
@@ -133,5 +133,5 @@ class BadText(HeapError):
     """Not a text that can be read; `row` is the index of the first line that is wrong, or None."""
 
     def __init__(self, row=None):
-        super().__init__(f"not a text that can be read (row {row})")
+        super().__init__("not a text that can be read")
         self.row = row
