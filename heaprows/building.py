@@ -158,9 +158,14 @@ def numbers_by_sum(costs, heaps):
     # For each heap, the keys can stop anywhere in their subtrees, whatever the other keys do.
     numbers = [heaps]
     for choices in costs:
-        longer = [0] * (len(numbers) + max(choices))
-        for total, number in enumerate(numbers):
-            for cost in choices:
-                longer[total + cost] += number
-        numbers = longer
+        numbers = numbers_with(numbers, choices)
     return numbers
+
+
+def numbers_with(numbers, choices):
+    """Return the numbers behind one more choice of a cost, for the list of those before it."""
+    longer = [0] * (len(numbers) + max(choices))
+    for total, number in enumerate(numbers):
+        for cost in choices:
+            longer[total + cost] += number
+    return longer

@@ -109,11 +109,7 @@ def how_many_orders(row, *, arms=2):
     # Many orders lead back to the same heap with fewer keys, so each such heap is looked at once.
     numbers = {heap: 1}
     for _ in heap:
-        fewer = {}
-        for after in numbers:
-            for undone in undone_pushes(after, arms):
-                fewer[undone.row] = fewer.get(undone.row, 0) + numbers[after]
-        numbers = fewer
+        numbers = numbers_before(numbers, arms)
     return numbers[()]
 
 
@@ -123,12 +119,7 @@ def orders_of(row, *, arms=2):
     check_few(heap, MOST_LISTED)
     ends = {heap: [()]}
     for _ in heap:
-        fewer = {}
-        for after in ends:
-            for undone in undone_pushes(after, arms):
-                longer = [(undone.key,) + end for end in ends[after]]
-                fewer[undone.row] = fewer.get(undone.row, []) + longer
-        ends = fewer
+        ends = ends_before(ends, arms)
     return sorted(ends[()])
 
 
@@ -151,3 +142,22 @@ def heap_and_way_below(row, place, arms):
 def undone_pushes(heap, arms):
     """Return the list of the Undone for each place at which a push can be undone."""
     return [undo_push(heap, place, arms=arms) for place in last_places(heap, arms=arms)]
+
+
+def numbers_before(numbers, arms):
+    """Return the number of orders from each heap with one key fewer, for a dict of those from heaps with more."""
+    fewer = {}
+    for heap in numbers:
+        for undone in undone_pushes(heap, arms):
+            fewer[undone.row] = fewer.get(undone.row, 0) + numbers[heap]
+    return fewer
+
+
+def ends_before(ends, arms):
+    """Return the ends of orders from each heap with one key fewer, for a dict of those from heaps with more."""
+    fewer = {}
+    for heap in ends:
+        for undone in undone_pushes(heap, arms):
+            longer = [(undone.key,) + end for end in ends[heap]]
+            fewer[undone.row] = fewer.get(undone.row, []) + longer
+    return fewer

@@ -22,6 +22,7 @@ METHODS = set("append clear copy count endswith extend find get index insert isa
               "isupper items join keys ljust lower lstrip partition pop remove replace reverse rfind rjust rpartition "
               "rsplit rstrip setdefault split splitlines startswith strip update upper values zfill bit_length add "
               "discard".split())
+CHANGING = set("append clear extend insert pop remove reverse setdefault update add discard sort".split())
 DOUBLE = set("__init__ __eq__ __repr__ __str__ __len__ __enter__ __exit__ __call__ __iter__ __contains__ "
              "__getitem__".split())
 BARRED = set("register mro elements open input law version_info with_traceback add_note compile copyright credits "
@@ -131,6 +132,36 @@ def bound_inside(tree):
     return names
 
 
+def one_name(names, pairs):
+    """The names that may mean the same as some of these, where each pair of names means the same at some time."""
+    found = set(names)
+    while True:
+        more = {name for pair in pairs if found & set(pair) for name in pair}
+        if more <= found:
+            return found
+        found |= more
+
+
+def changed_in(loop):
+    """The names of what is changed inside a loop: by items, by `+=` and the like, or by methods."""
+    names = set()
+    for node in ast.walk(ast.Module(body=loop.body, type_ignores=[])):
+        if isinstance(node, ast.Subscript) and not isinstance(node.ctx, ast.Load):
+            names.add(ast.unparse(node.value))
+        if isinstance(node, ast.AugAssign):
+            names.add(ast.unparse(node.target))
+        if isinstance(node, ast.Call) and isinstance(node.func, ast.Attribute) and node.func.attr in CHANGING:
+            names.add(ast.unparse(node.func.value))
+    return names
+
+
+def walked_by(loop):
+    """The names of what a loop walks, unless it walks a copy."""
+    if isinstance(loop.iter, ast.Call) and ast.unparse(loop.iter.func) in ("list", "sorted", "range", "tuple"):
+        return set()
+    return {ast.unparse(node) for node in ast.walk(loop.iter) if isinstance(node, (ast.Name, ast.Attribute))}
+
+
 class FormTest(unittest.TestCase):
     def test_files(self):
         self.assertTrue(FOLDER.joinpath("__init__.py").is_file())
@@ -205,6 +236,18 @@ class FormTest(unittest.TestCase):
                     self.assertTrue(all(handler.type for handler in node.handlers), stem)
                 for decorator in getattr(node, "decorator_list", []):
                     self.assertIn(ast.unparse(decorator), ("property", "staticmethod", "classmethod"), stem)
+
+    def test_loops_change_nothing_that_they_walk(self):
+        for stem, tree in trees().items():
+            for function in ast.walk(tree):
+                if isinstance(function, ast.FunctionDef):
+                    pairs = [(ast.unparse(target), node.value.id) for node in ast.walk(function)
+                             if isinstance(node, ast.Assign) and isinstance(node.value, ast.Name)
+                             for target in node.targets]
+                    for loop in ast.walk(function):
+                        if isinstance(loop, ast.For):
+                            walked = one_name(walked_by(loop), pairs)
+                            self.assertEqual(walked & changed_in(loop), set(), (stem, function.name, loop.lineno))
 
     def test_names(self):
         for stem, tree in trees().items():
