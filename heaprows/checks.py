@@ -1,16 +1,26 @@
 """Checks of arguments that several modules share."""
 
-from heaprows.errors import BadArms, BadIndex, BadKey, BadMany, BadPlace, BadRow, SameKeys, TooLarge
+from heaprows.errors import BadArms, BadIndex, BadKey, BadMany, BadPlace, BadRoom, BadRow, SameKeys, TooLarge
 
 MOST_ARMS = 4
 MOST_PLACES = 12
+MOST_ROOM = 12
 GREATEST_KEY = 1000000000
+
+
+class Mark:
+    """A mark that equals no other one, so that objects that hold one equal only themselves."""
+
+
+def is_integer(thing):
+    """Return whether a value of any kind is an integer."""
+    # In Python, booleans are integers; in this package they are not.
+    return isinstance(thing, int) and not isinstance(thing, bool)
 
 
 def is_integer_from(thing, least, greatest):
     """Return whether a value of any kind is an integer within two limits."""
-    # In Python, booleans are integers; in this package they are not.
-    return isinstance(thing, int) and not isinstance(thing, bool) and least <= thing <= greatest
+    return is_integer(thing) and least <= thing <= greatest
 
 
 def is_key(thing):
@@ -40,6 +50,12 @@ def check_key(key):
     """Raise BadKey if a value is not a key."""
     if not is_key(key):
         raise BadKey("not an integer from -10**9 to 10**9")
+
+
+def check_room(room):
+    """Raise BadRoom if a value is not a room."""
+    if not is_integer_from(room, 1, MOST_ROOM):
+        raise BadRoom("not an integer from 1 to 12")
 
 
 def check_index(index, many):

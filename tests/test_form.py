@@ -97,7 +97,31 @@ INTERFACE = {
         "Stands.shows": "(self, many, place, rank, *, arms=2)", "Barred": "(word, places)",
         "Barred.shows": "(self, many, place, rank, *, arms=2)",
     },
+    "looking": {
+        "judge_rank": "(many, look, place, *, arms=2)", "is_sure": "(many, look, place, *, arms=2)",
+        "open_ranks": "(many, look, place, *, arms=2)", "sure_places": "(many, look, *, arms=2)",
+        "fewest_looks": "(row, place, *, arms=2)", "Sure": "(rank, ahead, behind)", "Open": "(one, other)",
+        "Sure.shows": "(self, many, look, place, *, arms=2)", "Open.shows": "(self, many, look, place, *, arms=2)",
+        "Fewest": "(look, opens)", "Fewest.shows": "(self, row, place, *, arms=2)",
+    },
+    "streams": {
+        "Keeper": "(room, *, arms=2)", "Keeper.see": "(self, key)", "Keeper.ascending": "(self)",
+        "changes": "(room, row)", "order_code": "(order)", "order_by": "(numbers)",
+        "many_orders": "(many, room, number)", "order_at": "(many, room, number, index)",
+        "order_index": "(room, order)",
+    },
+    "runs": {
+        "by_replacement": "(room, row)", "fewest_runs": "(room, row)", "runs_of": "(room, row, written)",
+        "judge_runs": "(room, row, number)", "least_room": "(row, number)", "many_of_one": "(many, room)",
+        "Cuts": "(written)", "Cuts.shows": "(self, room, row, number)", "Needs": "(levels)",
+        "Needs.shows": "(self, room, row, number)",
+    },
+    "knowing": {
+        "know": "(many, goal, *, arms=2)", "fewest_questions": "(many, goal, *, arms=2)",
+        "Known": "(number, plan, bounds)", "Known.shows": "(self, many, goal, *, arms=2)",
+    },
 }
+PROPERTIES = {"streams": {"Keeper": ("heap", "entered")}}
 
 
 def files():
@@ -285,6 +309,11 @@ class FormTest(unittest.TestCase):
                 self.assertEqual(str(inspect.signature(thing)), signature, name)
                 self.assertEqual(thing.__module__, f"heaprows.{stem}", name)
                 self.assertEqual(thing.__qualname__, name)
+        for stem, classes in PROPERTIES.items():
+            for name, properties in classes.items():
+                for word in properties:
+                    found = vars(getattr(importlib.import_module(f"heaprows.{stem}"), name))[word]
+                    self.assertIsInstance(found, property, (name, word))
 
 
 if __name__ == "__main__":
