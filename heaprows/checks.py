@@ -1,4 +1,4 @@
-"""Checks of arguments that several modules share."""
+"""Checks of arguments, and little else, that several modules share."""
 
 from heaprows.errors import BadArms, BadIndex, BadKey, BadMany, BadPlace, BadRoom, BadRow, SameKeys, TooLarge
 
@@ -97,3 +97,11 @@ def is_set_of_places(thing, many):
     if not isinstance(thing, tuple) or not all([is_integer_from(item, 0, many - 1) for item in thing]):
         return False
     return list(thing) == sorted(set(thing))
+
+
+def parts_of(things, size):
+    """Return the list of all tuples of so many of some things, in their order."""
+    parts = [()]
+    for thing in things:
+        parts = parts + [part + (thing,) for part in parts]
+    return [part for part in parts if len(part) == size]

@@ -1,6 +1,6 @@
 """Looking: what looks at some places tell of the ranks of places in full heaps."""
 
-from heaprows.checks import check_few, check_place, is_full, is_integer_from
+from heaprows.checks import check_few, check_place, is_full, is_integer, parts_of
 from heaprows.errors import BadOrder
 from heaprows.rows import heap_of, is_full_heap
 from heaprows.standing import row_by_order
@@ -24,7 +24,7 @@ class Sure:
     def shows(self, many, look, place, *, arms=2):
         """Return whether there are chains for all other places, and as many ahead as the rank."""
         tree = tree_of_look(many, look, place, arms)
-        if not is_integer_from(self.rank, 0, many - 1) or len(self.ahead) != self.rank:
+        if not is_integer(self.rank) or len(self.ahead) != self.rank:
             return False
         others = list(self.ahead) + list(self.behind) + [place]
         if not is_full(others, many):
@@ -150,8 +150,7 @@ def is_look(thing, tree):
     """Return whether a value of any kind is a look that fits."""
     if not isinstance(thing, tuple) or not all([place in tree for place in thing]):
         return False
-    if len(set(thing)) < len(thing):
-        return False
+    # A way ends with its own place, so no place comes twice either.
     return all([later not in tree.way_to(place) for at, place in enumerate(thing) for later in thing[at + 1:]])
 
 
@@ -213,10 +212,7 @@ def look_before(look, place):
 
 def looks_that_tell(heap, size):
     """Return the list of all looks with so many places that tell of a full heap."""
-    looks = [()]
-    for key in range(len(heap)):
-        looks = looks + [look + (heap.index(key),) for look in looks]
-    return [look for look in looks if len(look) == size]
+    return parts_of([heap.index(key) for key in range(len(heap))], size)
 
 
 def sure_looks(heap, size, place, arms):

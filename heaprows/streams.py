@@ -2,8 +2,9 @@
 
 from heaprows.checks import Mark, check_arms, check_index, check_key, check_many, check_room
 from heaprows.checks import is_full, is_integer_from, is_key, row_of
-from heaprows.errors import BadCode, BadNumber, BadOrder
+from heaprows.errors import BadCode, BadOrder
 from heaprows.heaps import push, put_for
+from heaprows.standing import check_count
 
 MOST_ITEMS = 12
 
@@ -137,8 +138,7 @@ def ends_for(many, room, number):
     """Return, for each index from 0 to many, a dict from numbers to how many ends of codes have so many coming in."""
     check_many(many)
     check_room(room)
-    if not is_integer_from(number, 0, many):
-        raise BadNumber("not an integer from 0 to the number of items")
+    check_count(number, many)
     ends = [{coming: int(coming == 0) for coming in range(many + 1)}]
     for at in reversed(range(many)):
         ends.append({coming: sum([ends_with(ends[-1], digit, room, coming) for digit in range(at + 1)])

@@ -2,6 +2,7 @@
 
 import ast
 import builtins
+import functools
 import importlib
 import inspect
 import pathlib
@@ -21,7 +22,7 @@ LIBRARY = {"heapq": {"heappush", "heappop", "heapify", "heapreplace", "heappushp
 METHODS = set("append clear copy count endswith extend find get index insert isalnum isalpha isdigit islower isspace "
               "isupper items join keys ljust lower lstrip partition pop remove replace reverse rfind rjust rpartition "
               "rsplit rstrip setdefault split splitlines startswith strip update upper values zfill bit_length add "
-              "discard".split())
+              "discard removeprefix removesuffix isascii".split())
 CHANGING = set("append clear extend insert pop remove reverse setdefault update add discard sort".split())
 DOUBLE = set("__init__ __eq__ __repr__ __str__ __len__ __enter__ __exit__ __call__ __iter__ __contains__ "
              "__getitem__".split())
@@ -120,14 +121,42 @@ INTERFACE = {
         "know": "(many, goal, *, arms=2)", "fewest_questions": "(many, goal, *, arms=2)",
         "Known": "(number, plan, bounds)", "Known.shows": "(self, many, goal, *, arms=2)",
     },
+    "fronts": {
+        "front": "(row, count, *, arms=2)", "least_keys": "(row, count, *, arms=2)",
+        "judge_places": "(row, count, places, *, arms=2)", "does_settle": "(row, count, places, *, arms=2)",
+        "fewest_places": "(row, count, *, arms=2)", "Front": "(taken, waiting)", "Settled": "(least)",
+        "Settled.shows": "(self, row, count, places, *, arms=2)", "Unsettled": "(row)",
+        "Unsettled.shows": "(self, row, count, places, *, arms=2)", "Least": "(places, rows)",
+        "Least.shows": "(self, row, count, *, arms=2)",
+    },
+    "ways": {
+        "states": "(pool, *, arms=2)", "deeds": "(pool, state, *, arms=2)",
+        "after": "(pool, state, history, *, arms=2)", "route": "(pool, one, other, *, arms=2)",
+        "distance": "(pool, one, other, *, arms=2)", "farthest": "(pool, *, arms=2)", "Route": "(deeds, levels)",
+        "Route.shows": "(self, pool, one, other, *, arms=2)",
+    },
+    "queues": {
+        "Queue": "(*, arms=2)", "Queue.put": "(self, name, key)", "Queue.change": "(self, name, key)",
+        "Queue.take": "(self)", "Queue.drop": "(self, name)", "Queue.undo": "(self)", "Queue.branch": "(self)",
+        "Queue.trial": "(self)", "Queue.attempt": "(self, work)", "Queue.where": "(self, name)",
+        "Queue.key_of": "(self, name)", "Queue.in_order": "(self)",
+    },
+    "texts": {
+        "write_heap": "(row, *, arms=2)", "read_heap": "(text, *, arms=2)", "write_journal": "(queue)",
+        "read_journal": "(text, *, arms=2)",
+    },
 }
-PROPERTIES = {"streams": {"Keeper": ("heap", "entered")}}
+PROPERTIES = {"streams": {"Keeper": ("heap", "entered")}, "queues": {"Queue": ("heap", "names", "journal")}}
+DUNDERS = {"trees": {"Tree": "__len__ __contains__ __iter__ __getitem__ __eq__"},
+           "streams": {"Keeper": "__len__ __contains__"}, "fronts": {"Front": "__len__ __eq__"},
+           "queues": {"Queue": "__len__ __contains__ __eq__"}}
 
 
 def files():
     return sorted(path for path in FOLDER.rglob("*") if path.is_file() and "__pycache__" not in path.parts)
 
 
+@functools.lru_cache(maxsize=None)
 def trees():
     return {path.stem: ast.parse(path.read_text("utf-8")) for path in files()}
 
@@ -314,6 +343,10 @@ class FormTest(unittest.TestCase):
                 for word in properties:
                     found = vars(getattr(importlib.import_module(f"heaprows.{stem}"), name))[word]
                     self.assertIsInstance(found, property, (name, word))
+        for stem, classes in DUNDERS.items():
+            for name, words in classes.items():
+                own = vars(getattr(importlib.import_module(f"heaprows.{stem}"), name))
+                self.assertLessEqual(set(words.split()), set(own), name)
 
 
 if __name__ == "__main__":

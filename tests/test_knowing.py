@@ -219,6 +219,7 @@ class KnownTest(unittest.TestCase):
         self.assertIs(Known(1, plan, {(one, other): 1, (one,): -7, (other,): 0}).shows(3, None), True)
         self.assertIs(Known(1, plan, {(one, other): 1, (one,): -7, (other,): -1}).shows(3, None), False)
         self.assertIs(Known(1, plan, {(one, other): 1, (one,): 1}).shows(3, None), False)
+        self.assertIs(Known(0, {((0, 1),): (None, 0)}, {((0, 1),): -5}).shows(2, None), True)
 
     def test_kinds(self):
         one, other = (0, 1, 2), (0, 2, 1)
@@ -229,6 +230,7 @@ class KnownTest(unittest.TestCase):
                       Known(1, {**plan, (one, other): ((True, 2), 1)}, bounds),
                       Known(1, {**plan, (one, other): ([1, 2], 1)}, bounds),
                       Known(1, {**plan, (one, other): [(1, 2), 1]}, bounds),
+                      Known(1, {**plan, (one, other): ((1, 2), 1, 1)}, bounds),
                       Known(1, {(one, other): ((1, 2), 1), ((False, 1, 2),): (None, 0), (other,): (None, 0)}, bounds),
                       Known(1, plan, {((0, True, 2), other): 1}), Known(1, {**plan, 5: (None, 0)}, bounds),
                       Known(1, {**plan, "ab": (None, 0)}, bounds), Known(1, plan, {**bounds, None: 0}),
