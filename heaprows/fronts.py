@@ -89,7 +89,7 @@ def front(row, count, *, arms=2):
     waiting = list(tree)[:1]
     while len(taken) < count:
         if taken:
-            waiting.extend(tree[taken[-1]])
+            waiting.extend(list(tree[taken[-1]]))
         least = min([(heap[place], place) for place in waiting])
         taken.append(least[1])
         waiting.remove(least[1])

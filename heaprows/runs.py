@@ -122,7 +122,7 @@ def written_by_replacement(room, given):
         fitting = [key for key in held if not written or key > written[-1]]
         written.append(min(fitting or held))
         held.remove(written[-1])
-        held.extend(given[room + at:room + at + 1])
+        held.extend(list(given[room + at:room + at + 1]))
     return tuple(written)
 
 
@@ -135,7 +135,7 @@ def is_way(thing, room, given):
         if not is_key(key) or key not in held:
             return False
         held.remove(key)
-        held.extend(given[room + at:room + at + 1])
+        held.extend(list(given[room + at:room + at + 1]))
     return True
 
 

@@ -215,6 +215,23 @@ def walked_by(loop):
     return {ast.unparse(node) for node in ast.walk(loop.iter) if isinstance(node, (ast.Name, ast.Attribute))}
 
 
+def adds_what_may_be_itself(node):
+    """Whether a row adds something to a list or dict without showing that it is not this list or dict."""
+    if isinstance(node, ast.AugAssign) and isinstance(node.op, (ast.Add, ast.BitOr)):
+        # Names and attributes are left out: here they are numbers.
+        return isinstance(node.value, ast.Subscript)
+    if isinstance(node, ast.Call) and isinstance(node.func, ast.Attribute) and node.func.attr in ("extend", "update"):
+        return not all(is_new(part) for part in node.args)
+    return False
+
+
+def is_new(node):
+    """Whether a row shows that a list or dict is made on the spot."""
+    if isinstance(node, ast.Call):
+        return ast.unparse(node.func) in ("list", "sorted", "dict")
+    return isinstance(node, (ast.List, ast.ListComp, ast.Dict, ast.DictComp))
+
+
 class FormTest(unittest.TestCase):
     def test_files(self):
         self.assertTrue(FOLDER.joinpath("__init__.py").is_file())
@@ -301,6 +318,19 @@ class FormTest(unittest.TestCase):
                         if isinstance(loop, ast.For):
                             walked = one_name(walked_by(loop), pairs)
                             self.assertEqual(walked & changed_in(loop), set(), (stem, function.name, loop.lineno))
+
+    def test_nothing_is_added_to_itself(self):
+        for stem, tree in trees().items():
+            for node in ast.walk(tree):
+                self.assertFalse(adds_what_may_be_itself(node), (stem, getattr(node, "lineno", None)))
+
+    def test_what_may_be_added_to_itself(self):
+        for row in ("out.extend(tree[0])", "out.extend(shelf)", "out.update(box.rows)", "out.extend(given[1:])",
+                    "out += tree[0]", "out |= box.rows[0]", "out.extend([shelf][0])"):
+            self.assertTrue(any(map(adds_what_may_be_itself, ast.walk(ast.parse(row)))), row)
+        for row in ("out.extend(list(tree[0]))", "out.extend([1])", "out.update({1: 2})", "out += list(tree[0])",
+                    "out += 1", "out += box.looks", "out -= xs[0]", "out.append(tree[0])"):
+            self.assertFalse(any(map(adds_what_may_be_itself, ast.walk(ast.parse(row)))), row)
 
     def test_names(self):
         for stem, tree in trees().items():
